@@ -1,0 +1,100 @@
+package tests
+
+import (
+	"math"
+	"reflect"
+	"slices"
+	"testing"
+
+	"loop.example/fieldroots/impl"
+)
+
+// The general rules.
+
+func TestSkeletonConstants(t *testing.T) {
+	if impl.MaxNodes != 6 || impl.MaxWays != 9 || impl.MaxCost != 9 {
+		t.Error(impl.MaxNodes, impl.MaxWays, impl.MaxCost)
+	}
+}
+
+func callAll(net impl.Net, set, place, ends int) {
+	callNets(net, set, place, ends)
+	callTrees(net, set, ends)
+}
+
+func callNets(net impl.Net, set, place, ends int) {
+	impl.NetOk(net)
+	impl.CostOf(net, set)
+	impl.ReachOf(net, set, place)
+	impl.JoinsEnds(net, set, ends)
+	impl.NodesOf(net, set)
+	impl.FarTable(net)
+	impl.PathOf(net, place, 0)
+	impl.PathOf(net, 0, place)
+	impl.PartsOf(net)
+}
+
+func callTrees(net impl.Net, set, ends int) {
+	impl.TreeOk(net, set)
+	impl.LeavesOf(net, set)
+	impl.Pruned(net, set, ends)
+	impl.SpanTree(net)
+	impl.SpanCost(net)
+	impl.SpanMany(net)
+	impl.BridgeWays(net)
+}
+
+func TestNoArgumentIsWrittenTo(t *testing.T) {
+	for _, net := range append(drawnNets(60), netOf(9, way(7, 7, 77)), netOf(3, way(5, 0, 1))) {
+		room := append(slices.Clone(net.Ways), way(2, 1, 3), way(1, 2, 4))
+		before := slices.Clone(room)
+		net.Ways = room[:len(net.Ways)]
+		for set := range 1 << min(len(net.Ways), 4) {
+			callAll(net, set, net.Nodes-1, allOf(net.Nodes))
+		}
+		if !slices.Equal(room, before) {
+			t.Fatalf("%v, before %v", room, before)
+		}
+	}
+}
+
+func TestResultsAreNewMemory(t *testing.T) {
+	spoil := func(row []int) {
+		row = row[:cap(row)]
+		for i := range row {
+			row[i] = 77
+		}
+	}
+	for _, net := range append(drawnNets(60), netOf(6)) {
+		table, again := impl.FarTable(net), impl.FarTable(net)
+		for i := range table {
+			spoil(table[i])
+			for j := i + 1; j < len(table); j++ {
+				if !slices.Equal(table[j], again[j]) {
+					t.Fatalf("row %d changes with row %d", j, i)
+				}
+			}
+		}
+		parts := impl.PartsOf(net)
+		spoil(impl.PartsOf(net))
+		if !reflect.DeepEqual(impl.FarTable(net), again) || !slices.Equal(impl.PartsOf(net), parts) {
+			t.Fatal("a later call returns another result")
+		}
+	}
+}
+
+func TestNoArgumentStopsTheProgram(t *testing.T) {
+	numbers := []int{math.MinInt, -64, -1, 0, 1, 5, 6, 9, 63, 64, 511, 512, 1 << 32, math.MaxInt}
+	nets := []impl.Net{netOf(2), netOf(6), edgeNets()["mesh of MaxWays ways"]}
+	for _, net := range badNets() {
+		nets = append(nets, net)
+	}
+	for _, net := range nets {
+		for _, set := range numbers {
+			for _, place := range numbers {
+				callAll(net, set, place, set)
+				callAll(net, set, place, place)
+			}
+		}
+	}
+}
