@@ -20,6 +20,7 @@ func TestSkeletonConstants(t *testing.T) {
 func callAll(net impl.Net, set, place, ends int) {
 	callNets(net, set, place, ends)
 	callTrees(net, set, ends)
+	callRoots(net, set, ends)
 }
 
 func callNets(net impl.Net, set, place, ends int) {
@@ -44,6 +45,14 @@ func callTrees(net impl.Net, set, ends int) {
 	impl.BridgeWays(net)
 }
 
+func callRoots(net impl.Net, set, ends int) {
+	impl.RootCost(net, ends)
+	impl.RootOf(net, ends)
+	impl.FootTable(net)
+	impl.AllRoots(net, ends)
+	impl.LeastIn(net, set, ends)
+}
+
 func TestNoArgumentIsWrittenTo(t *testing.T) {
 	for _, net := range append(drawnNets(60), netOf(9, way(7, 7, 77)), netOf(3, way(5, 0, 1))) {
 		room := append(slices.Clone(net.Ways), way(2, 1, 3), way(1, 2, 4))
@@ -59,27 +68,35 @@ func TestNoArgumentIsWrittenTo(t *testing.T) {
 }
 
 func TestResultsAreNewMemory(t *testing.T) {
-	spoil := func(row []int) {
-		row = row[:cap(row)]
-		for i := range row {
-			row[i] = 77
-		}
-	}
 	for _, net := range append(drawnNets(60), netOf(6)) {
-		table, again := impl.FarTable(net), impl.FarTable(net)
-		for i := range table {
-			spoil(table[i])
-			for j := i + 1; j < len(table); j++ {
-				if !slices.Equal(table[j], again[j]) {
-					t.Fatalf("row %d changes with row %d", j, i)
-				}
+		checkNewRows(t, func() [][]int { return impl.FarTable(net) })
+		checkNewRows(t, func() [][]int { return [][]int{impl.PartsOf(net)} })
+		checkNewRows(t, func() [][]int { return impl.FootTable(net) })
+		checkNewRows(t, func() [][]int { return [][]int{impl.AllRoots(net, 1), impl.AllRoots(net, 3)} })
+	}
+}
+
+// checkNewRows writes over each row with its spare room, and looks for it in the rows behind and in a later result.
+func checkNewRows(t *testing.T, result func() [][]int) {
+	t.Helper()
+	rows, again := result(), result()
+	for i := range rows {
+		spoil(rows[i])
+		for j := i + 1; j < len(rows); j++ {
+			if !slices.Equal(rows[j], again[j]) {
+				t.Fatalf("row %d changes with row %d", j, i)
 			}
 		}
-		parts := impl.PartsOf(net)
-		spoil(impl.PartsOf(net))
-		if !reflect.DeepEqual(impl.FarTable(net), again) || !slices.Equal(impl.PartsOf(net), parts) {
-			t.Fatal("a later call returns another result")
-		}
+	}
+	if !reflect.DeepEqual(result(), again) {
+		t.Fatal("a later call returns another result")
+	}
+}
+
+func spoil(row []int) {
+	row = row[:cap(row)]
+	for i := range row {
+		row[i] = 77
 	}
 }
 
