@@ -21,6 +21,7 @@ func callAll(net impl.Net, set, place, ends int) {
 	callNets(net, set, place, ends)
 	callTrees(net, set, ends)
 	callRoots(net, set, ends)
+	callChoices(net, set, ends)
 }
 
 func callNets(net impl.Net, set, place, ends int) {
@@ -53,6 +54,15 @@ func callRoots(net impl.Net, set, ends int) {
 	impl.LeastIn(net, set, ends)
 }
 
+func callChoices(net impl.Net, set, ends int) {
+	impl.SpanOn(net, ends)
+	impl.ChosenCost(net, ends, set)
+	impl.ChosenCost(net, set, ends)
+	impl.BestChoice(net, ends)
+	impl.ForksOf(net, set)
+	impl.DegreeRow(net, set)
+}
+
 func TestNoArgumentIsWrittenTo(t *testing.T) {
 	for _, net := range append(drawnNets(60), netOf(9, way(7, 7, 77)), netOf(3, way(5, 0, 1))) {
 		room := append(slices.Clone(net.Ways), way(2, 1, 3), way(1, 2, 4))
@@ -73,24 +83,41 @@ func TestResultsAreNewMemory(t *testing.T) {
 		checkNewRows(t, func() [][]int { return [][]int{impl.PartsOf(net)} })
 		checkNewRows(t, func() [][]int { return impl.FootTable(net) })
 		checkNewRows(t, func() [][]int { return [][]int{impl.AllRoots(net, 1), impl.AllRoots(net, 3)} })
+		checkNewRows(t, func() [][]int { return [][]int{impl.DegreeRow(net, 0), impl.DegreeRow(net, allOf(len(net.Ways)))} })
 	}
 }
 
-// checkNewRows writes over each row with its spare room, and looks for it in the rows behind and in a later result.
+// checkNewRows writes over each row with its spare room, and looks for it in a result of before, in the rows behind,
+// and in a later result.
 func checkNewRows(t *testing.T, result func() [][]int) {
 	t.Helper()
-	rows, again := result(), result()
+	rows, other := result(), result()
+	want := copyOf(rows)
+	for _, row := range other {
+		spoil(row)
+	}
+	if !reflect.DeepEqual(rows, want) {
+		t.Fatal("a result changes with that of another call")
+	}
 	for i := range rows {
 		spoil(rows[i])
 		for j := i + 1; j < len(rows); j++ {
-			if !slices.Equal(rows[j], again[j]) {
+			if !slices.Equal(rows[j], want[j]) {
 				t.Fatalf("row %d changes with row %d", j, i)
 			}
 		}
 	}
-	if !reflect.DeepEqual(result(), again) {
+	if !reflect.DeepEqual(result(), want) {
 		t.Fatal("a later call returns another result")
 	}
+}
+
+func copyOf(rows [][]int) [][]int {
+	copied := slices.Clone(rows)
+	for i := range copied {
+		copied[i] = slices.Clone(copied[i])
+	}
+	return copied
 }
 
 func spoil(row []int) {
