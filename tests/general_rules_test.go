@@ -22,6 +22,7 @@ func callAll(net impl.Net, set, place, ends int) {
 	callTrees(net, set, ends)
 	callRoots(net, set, ends)
 	callChoices(net, set, ends)
+	callLinks(net, ends)
 }
 
 func callNets(net impl.Net, set, place, ends int) {
@@ -63,6 +64,12 @@ func callChoices(net impl.Net, set, ends int) {
 	impl.DegreeRow(net, set)
 }
 
+func callLinks(net impl.Net, ends int) {
+	impl.EndLinks(net, ends)
+	impl.EndTreeCost(net, ends)
+	impl.EndTreeSet(net, ends)
+}
+
 func TestNoArgumentIsWrittenTo(t *testing.T) {
 	for _, net := range append(drawnNets(60), netOf(9, way(7, 7, 77)), netOf(3, way(5, 0, 1))) {
 		room := append(slices.Clone(net.Ways), way(2, 1, 3), way(1, 2, 4))
@@ -84,6 +91,12 @@ func TestResultsAreNewMemory(t *testing.T) {
 		checkNewRows(t, func() [][]int { return impl.FootTable(net) })
 		checkNewRows(t, func() [][]int { return [][]int{impl.AllRoots(net, 1), impl.AllRoots(net, 3)} })
 		checkNewRows(t, func() [][]int { return [][]int{impl.DegreeRow(net, 0), impl.DegreeRow(net, allOf(len(net.Ways)))} })
+		for ends := range 1 << net.Nodes {
+			checkNewRows(t, func() [][]int {
+				links, _ := impl.EndLinks(net, ends)
+				return links
+			})
+		}
 	}
 }
 

@@ -24,8 +24,8 @@ func has(set, number int) bool { return set>>number&1 == 1 }
 func wayPlaces(w impl.Way) int { return 1<<w.A | 1<<w.B }
 
 // edgeNets are the cases that the document names: several ways between the same two places, ways of no cost,
-// places that are not come to, roots through places that are no ends, choices that do not hang together, no ways,
-// MaxNodes places, MaxWays ways.
+// places that are not come to, roots through places that are no ends, choices that do not hang together, ends that are
+// as near, least paths through other ends, paths that share ways, no ways, MaxNodes places, MaxWays ways.
 func edgeNets() map[string]impl.Net {
 	same := slices.Repeat([]impl.Way{way(0, 1, 9)}, impl.MaxWays)
 	free := slices.Repeat([]impl.Way{way(1, 0, 0)}, impl.MaxWays)
@@ -63,6 +63,10 @@ func edgeNets() map[string]impl.Net {
 		"two hubs, no ways round them":                  netOf(6, way(0, 4, 1), way(1, 4, 1), way(4, 5, 0), way(5, 2, 1), way(5, 3, 1)),
 		"equal costs, fewer places of a greater number": netOf(5, way(0, 2, 1), way(2, 3, 1), way(3, 1, 1), way(0, 4, 1), way(4, 1, 2)),
 		"equal costs, last ways over the first place":   netOf(4, way(0, 2, 2), way(2, 3, 2), way(0, 1, 2), way(1, 3, 2)),
+		"star of equal arms":                            netOf(6, way(5, 0, 1), way(1, 5, 1), way(5, 2, 1), way(3, 5, 1), way(5, 4, 1)),
+		"free way before a dear one":                    netOf(3, way(0, 1, 0), way(1, 2, 5)),
+		"dear way before a free one":                    netOf(3, way(0, 2, 5), way(2, 1, 0)),
+		"two hubs, and a way past one":                  netOf(6, way(3, 4, 3), way(5, 3, 1), way(1, 5, 1), way(0, 3, 2), way(5, 2, 1), way(1, 3, 2)),
 		"mesh of MaxWays ways": netOf(6, way(0, 1, 2), way(0, 2, 2), way(1, 2, 1), way(1, 3, 4), way(2, 3, 1),
 			way(3, 4, 0), way(2, 5, 9), way(4, 5, 3), way(0, 5, 7)),
 		"all greatest costs": netOf(6, way(0, 1, 9), way(1, 2, 9), way(2, 3, 9), way(3, 4, 9), way(4, 5, 9),
