@@ -12,8 +12,8 @@ import (
 // The general rules.
 
 func TestSkeletonConstants(t *testing.T) {
-	if impl.MaxNodes != 6 || impl.MaxWays != 9 || impl.MaxCost != 9 {
-		t.Error(impl.MaxNodes, impl.MaxWays, impl.MaxCost)
+	if impl.MaxNodes != 6 || impl.MaxWays != 9 || impl.MaxCost != 9 || impl.MaxCuts != 8 {
+		t.Error(impl.MaxNodes, impl.MaxWays, impl.MaxCost, impl.MaxCuts)
 	}
 }
 
@@ -23,6 +23,7 @@ func callAll(net impl.Net, set, place, ends int) {
 	callRoots(net, set, ends)
 	callChoices(net, set, ends)
 	callLinks(net, ends)
+	callCuts(net, set, place, ends)
 }
 
 func callNets(net impl.Net, set, place, ends int) {
@@ -70,17 +71,42 @@ func callLinks(net impl.Net, ends int) {
 	impl.EndTreeSet(net, ends)
 }
 
+func callCuts(net impl.Net, set, place, ends int) {
+	impl.CutWays(net, set)
+	impl.PartsEnds(net, ends, set)
+	impl.PartsEnds(net, set, ends)
+	for _, cuts := range [][]impl.Cut{{cut(1, place)}, {cut(set, 0), cut(ends, place), cut(place, ends)}} {
+		impl.PacksOk(net, ends, cuts)
+		impl.PackSum(net, ends, cuts)
+	}
+	impl.PathCuts(net, place, 0)
+	impl.PathCuts(net, 0, place)
+}
+
 func TestNoArgumentIsWrittenTo(t *testing.T) {
 	for _, net := range append(drawnNets(60), netOf(9, way(7, 7, 77)), netOf(3, way(5, 0, 1))) {
-		room := append(slices.Clone(net.Ways), way(2, 1, 3), way(1, 2, 4))
-		before := slices.Clone(room)
-		net.Ways = room[:len(net.Ways)]
-		for set := range 1 << min(len(net.Ways), 4) {
-			callAll(net, set, net.Nodes-1, allOf(net.Nodes))
+		checkUnwritten(t, net.Ways, way(2, 1, 3), func(ways []impl.Way) {
+			for set := range 1 << min(len(ways), 4) {
+				callAll(netOf(net.Nodes, ways...), set, net.Nodes-1, allOf(net.Nodes))
+			}
+		})
+		for _, cuts := range [][]impl.Cut{{cut(2, 1), cut(1, 0)}, {cut(2, 0), cut(3, 1), cut(1, 0)}, {cut(1, 99)}} {
+			checkUnwritten(t, cuts, cut(1, 1), func(cuts []impl.Cut) {
+				impl.PacksOk(net, 3, cuts)
+				impl.PackSum(net, 3, cuts)
+			})
 		}
-		if !slices.Equal(room, before) {
-			t.Fatalf("%v, before %v", room, before)
-		}
+	}
+}
+
+// checkUnwritten calls with spare room behind the elements, which is to stay as it is too.
+func checkUnwritten[E comparable](t *testing.T, elements []E, spare E, call func(elements []E)) {
+	t.Helper()
+	room := append(slices.Clone(elements), spare, spare)
+	before := slices.Clone(room)
+	call(room[:len(elements)])
+	if !slices.Equal(room, before) {
+		t.Fatalf("%v, before %v", room, before)
 	}
 }
 
@@ -97,23 +123,37 @@ func TestResultsAreNewMemory(t *testing.T) {
 				return links
 			})
 		}
+		checkNewMemory(t, cut(77, 77), func() [][]impl.Cut {
+			var lists [][]impl.Cut
+			for place := range net.Nodes {
+				there, _ := impl.PathCuts(net, 0, place)
+				back, _ := impl.PathCuts(net, place, 0)
+				lists = append(lists, there, back)
+			}
+			return lists
+		})
 	}
 }
 
-// checkNewRows writes over each row with its spare room, and looks for it in a result of before, in the rows behind,
-// and in a later result.
 func checkNewRows(t *testing.T, result func() [][]int) {
 	t.Helper()
-	rows, other := result(), result()
+	checkNewMemory(t, 77, result)
+}
+
+// checkNewMemory writes over each row with its spare room, and looks for it in a result of before, in the rows behind,
+// and in a later result.
+func checkNewMemory[E comparable](t *testing.T, other E, result func() [][]E) {
+	t.Helper()
+	rows, later := result(), result()
 	want := copyOf(rows)
-	for _, row := range other {
-		spoil(row)
+	for _, row := range later {
+		spoil(row, other)
 	}
 	if !reflect.DeepEqual(rows, want) {
 		t.Fatal("a result changes with that of another call")
 	}
 	for i := range rows {
-		spoil(rows[i])
+		spoil(rows[i], other)
 		for j := i + 1; j < len(rows); j++ {
 			if !slices.Equal(rows[j], want[j]) {
 				t.Fatalf("row %d changes with row %d", j, i)
@@ -125,7 +165,7 @@ func checkNewRows(t *testing.T, result func() [][]int) {
 	}
 }
 
-func copyOf(rows [][]int) [][]int {
+func copyOf[E any](rows [][]E) [][]E {
 	copied := slices.Clone(rows)
 	for i := range copied {
 		copied[i] = slices.Clone(copied[i])
@@ -133,10 +173,10 @@ func copyOf(rows [][]int) [][]int {
 	return copied
 }
 
-func spoil(row []int) {
+func spoil[E any](row []E, other E) {
 	row = row[:cap(row)]
 	for i := range row {
-		row[i] = 77
+		row[i] = other
 	}
 }
 

@@ -31,11 +31,11 @@ func farOf(net impl.Net, paths [][]int) [][]int {
 	return far
 }
 
-func listOf(places int) []int {
+func listOf(set int) []int {
 	var list []int
-	for place := range impl.MaxNodes {
-		if has(places, place) {
-			list = append(list, place)
+	for number := range max(impl.MaxNodes, impl.MaxWays) {
+		if has(set, number) {
+			list = append(list, number)
 		}
 	}
 	return list
