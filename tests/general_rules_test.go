@@ -24,6 +24,7 @@ func callAll(net impl.Net, set, place, ends int) {
 	callChoices(net, set, ends)
 	callLinks(net, ends)
 	callCuts(net, set, place, ends)
+	callShares(net, set, place, ends)
 }
 
 func callNets(net impl.Net, set, place, ends int) {
@@ -83,6 +84,16 @@ func callCuts(net impl.Net, set, place, ends int) {
 	impl.PathCuts(net, 0, place)
 }
 
+func callShares(net impl.Net, set, place, ends int) {
+	impl.UpWays(net)
+	impl.BirdShares(net)
+	impl.GroupCost(net, set)
+	impl.GroupCost(net, ends)
+	for _, row := range [][]int{nil, {set}, {0, place}, {0, set, place, ends, place, set}, {place, ends, set, 0, 0, ends, 0}} {
+		impl.SharesOk(net, row)
+	}
+}
+
 func TestNoArgumentIsWrittenTo(t *testing.T) {
 	for _, net := range append(drawnNets(60), netOf(9, way(7, 7, 77)), netOf(3, way(5, 0, 1))) {
 		checkUnwritten(t, net.Ways, way(2, 1, 3), func(ways []impl.Way) {
@@ -95,6 +106,9 @@ func TestNoArgumentIsWrittenTo(t *testing.T) {
 				impl.PacksOk(net, 3, cuts)
 				impl.PackSum(net, 3, cuts)
 			})
+		}
+		for _, row := range [][]int{nil, {3}, {0, 9}, {0, 82, -1}, make([]int, net.Nodes), impl.BirdShares(net)} {
+			checkUnwritten(t, row, 1, func(row []int) { impl.SharesOk(net, row) })
 		}
 	}
 }
@@ -117,6 +131,7 @@ func TestResultsAreNewMemory(t *testing.T) {
 		checkNewRows(t, func() [][]int { return impl.FootTable(net) })
 		checkNewRows(t, func() [][]int { return [][]int{impl.AllRoots(net, 1), impl.AllRoots(net, 3)} })
 		checkNewRows(t, func() [][]int { return [][]int{impl.DegreeRow(net, 0), impl.DegreeRow(net, allOf(len(net.Ways)))} })
+		checkNewRows(t, func() [][]int { return [][]int{impl.UpWays(net), impl.BirdShares(net), impl.UpWays(net)} })
 		for ends := range 1 << net.Nodes {
 			checkNewRows(t, func() [][]int {
 				links, _ := impl.EndLinks(net, ends)

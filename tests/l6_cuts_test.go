@@ -1,7 +1,6 @@
 package tests
 
 import (
-	"maps"
 	"math"
 	"math/rand/v2"
 	"slices"
@@ -115,14 +114,6 @@ func eachCuts(t *testing.T, check func(t *testing.T, net impl.Net, ends int, cut
 	})
 }
 
-func wantCuts(seen map[string]int, t *testing.T, cases ...string) {
-	t.Helper()
-	slices.Sort(cases)
-	if !slices.Equal(slices.Sorted(maps.Keys(seen)), cases) {
-		t.Errorf("the nets do not show just the cases %q: %v", cases, seen)
-	}
-}
-
 // Promise 36.
 
 func TestWithoutTheWaysOfACutItsPlacesAreLeftAlone(t *testing.T) {
@@ -145,7 +136,7 @@ func TestWithoutTheWaysOfACutItsPlacesAreLeftAlone(t *testing.T) {
 			seeTaken(seen, net, places, taken)
 		}
 	})
-	wantCuts(seen, t, "no places", "all places", "whole parts", "all ways", "some ways")
+	wantCases(seen, t, "no places", "all places", "whole parts", "all ways", "some ways")
 }
 
 func seeTaken(seen map[string]int, net impl.Net, places, taken int) {
@@ -247,7 +238,7 @@ func TestCutsThatPartEndsTakeAWayOfEachRoot(t *testing.T) {
 			}
 		}
 	})
-	wantCuts(seen, t, "not parted", "no root, and nothing taken", "no root", "a root")
+	wantCases(seen, t, "not parted", "no root, and nothing taken", "no root", "a root")
 }
 
 func TestPartsEndsOfSomeEnds(t *testing.T) {
@@ -328,7 +319,7 @@ func TestFewerCutsPackAsWell(t *testing.T) {
 			seen["no cuts"]++
 		}
 	})
-	wantCuts(seen, t, "no cuts", "MaxCuts cuts", "too many", "not parted", "too much on a way", "a weight that is none")
+	wantCases(seen, t, "no cuts", "MaxCuts cuts", "too many", "not parted", "too much on a way", "a weight that is none")
 }
 
 // someCuts have what all cuts weigh together, and -1 if they do not pack.
@@ -471,7 +462,7 @@ func TestCutsBoundRootsFromBelow(t *testing.T) {
 			seen["nothing"]++
 		}
 	})
-	wantCuts(seen, t, "not packed", "no root", "as much", "less", "nothing")
+	wantCases(seen, t, "not packed", "no root", "as much", "less", "nothing")
 }
 
 func TestPackSumOfSomeCuts(t *testing.T) {
@@ -533,7 +524,7 @@ func TestForTwoEndsCutsWeighWhatThePathCosts(t *testing.T) {
 			}
 		}
 	})
-	wantCuts(seen, t, "the same place", "not joined", "no cuts", "one cut", "several cuts",
+	wantCases(seen, t, "the same place", "not joined", "no cuts", "one cut", "several cuts",
 		"places at the same distance", "places as far as the second one", "places farther than it", "places not come to")
 }
 
@@ -676,7 +667,7 @@ func TestThereAndBackCutsWeighAsMuch(t *testing.T) {
 			}
 		}
 	})
-	wantCuts(seen, t, "no cuts", "pack at half", "nothing is left at half", "too many")
+	wantCases(seen, t, "no cuts", "pack at half", "nothing is left at half", "too many")
 }
 
 func checkThereAndBack(t *testing.T, seen map[string]int, net impl.Net, ends int, there, back []impl.Cut) {
@@ -738,6 +729,6 @@ func TestTheLeastTreeHasACheapestWayOfEachCut(t *testing.T) {
 			}
 		}
 	})
-	wantCuts(seen, t, "no tree, or no ways", "some of the cheapest ways",
+	wantCases(seen, t, "no tree, or no ways", "some of the cheapest ways",
 		"all of the cheapest ways, and dearer ones beside them", "all ways cost the same")
 }

@@ -175,6 +175,14 @@ func eachBadNet(t *testing.T, check func(t *testing.T, net impl.Net)) {
 	}
 }
 
+func wantCases(seen map[string]int, t *testing.T, cases ...string) {
+	t.Helper()
+	slices.Sort(cases)
+	if !slices.Equal(slices.Sorted(maps.Keys(seen)), cases) {
+		t.Errorf("the nets do not show just the cases %q: %v", cases, seen)
+	}
+}
+
 // badSets are numbers that tell no set of so many.
 func badSets(count int) []int {
 	return []int{-1, -2, math.MinInt, allOf(count) + 1, allOf(count) + 2, 1 << 32, math.MaxInt}
