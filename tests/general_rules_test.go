@@ -12,8 +12,8 @@ import (
 // The general rules.
 
 func TestSkeletonConstants(t *testing.T) {
-	if impl.MaxNodes != 6 || impl.MaxWays != 9 || impl.MaxCost != 9 || impl.MaxCuts != 8 {
-		t.Error(impl.MaxNodes, impl.MaxWays, impl.MaxCost, impl.MaxCuts)
+	if impl.MaxNodes != 6 || impl.MaxWays != 9 || impl.MaxCost != 9 || impl.MaxCuts != 8 || impl.MaxPrize != 20 {
+		t.Error(impl.MaxNodes, impl.MaxWays, impl.MaxCost, impl.MaxCuts, impl.MaxPrize)
 	}
 }
 
@@ -25,6 +25,7 @@ func callAll(net impl.Net, set, place, ends int) {
 	callLinks(net, ends)
 	callCuts(net, set, place, ends)
 	callShares(net, set, place, ends)
+	callPrizes(net, set, place, ends)
 }
 
 func callNets(net impl.Net, set, place, ends int) {
@@ -94,6 +95,16 @@ func callShares(net impl.Net, set, place, ends int) {
 	}
 }
 
+func callPrizes(net impl.Net, set, place, ends int) {
+	for _, row := range [][]int{nil, {20, 1}, {set, place}, {0, 20, 1, 0, 5, 20}, {place, ends, set, 0, 0, ends, 0}} {
+		impl.PrizesOk(net, row)
+		impl.GainOf(net, row, set)
+		impl.BestGain(net, row)
+		impl.BestWays(net, row)
+		impl.EndsGain(net, row, ends)
+	}
+}
+
 func TestNoArgumentIsWrittenTo(t *testing.T) {
 	for _, net := range append(drawnNets(60), netOf(9, way(7, 7, 77)), netOf(3, way(5, 0, 1))) {
 		checkUnwritten(t, net.Ways, way(2, 1, 3), func(ways []impl.Way) {
@@ -109,6 +120,15 @@ func TestNoArgumentIsWrittenTo(t *testing.T) {
 		}
 		for _, row := range [][]int{nil, {3}, {0, 9}, {0, 82, -1}, make([]int, net.Nodes), impl.BirdShares(net)} {
 			checkUnwritten(t, row, 1, func(row []int) { impl.SharesOk(net, row) })
+		}
+		for _, prizes := range [][]int{nil, {20}, {21, -1}, slices.Repeat([]int{impl.MaxPrize}, net.Nodes)} {
+			checkUnwritten(t, prizes, 1, func(prizes []int) {
+				impl.PrizesOk(net, prizes)
+				impl.GainOf(net, prizes, allOf(len(net.Ways)))
+				impl.BestGain(net, prizes)
+				impl.BestWays(net, prizes)
+				impl.EndsGain(net, prizes, allOf(min(net.Nodes, impl.MaxNodes)))
+			})
 		}
 	}
 }
