@@ -12,8 +12,8 @@ import (
 // The general rules.
 
 func TestSkeletonConstants(t *testing.T) {
-	if impl.MaxNodes != 6 || impl.MaxWays != 9 || impl.MaxCost != 9 || impl.MaxCuts != 8 || impl.MaxPrize != 20 {
-		t.Error(impl.MaxNodes, impl.MaxWays, impl.MaxCost, impl.MaxCuts, impl.MaxPrize)
+	if impl.MaxNodes != 6 || impl.MaxWays != 9 || impl.MaxCost != 9 || impl.MaxCuts != 8 || impl.MaxPrize != 20 || impl.MaxPairs != 4 {
+		t.Error(impl.MaxNodes, impl.MaxWays, impl.MaxCost, impl.MaxCuts, impl.MaxPrize, impl.MaxPairs)
 	}
 }
 
@@ -26,6 +26,7 @@ func callAll(net impl.Net, set, place, ends int) {
 	callCuts(net, set, place, ends)
 	callShares(net, set, place, ends)
 	callPrizes(net, set, place, ends)
+	callPairs(net, set, place, ends)
 }
 
 func callNets(net impl.Net, set, place, ends int) {
@@ -105,6 +106,22 @@ func callPrizes(net impl.Net, set, place, ends int) {
 	}
 }
 
+func callPairs(net impl.Net, set, place, ends int) {
+	for _, pairs := range [][]impl.Pair{
+		nil,
+		{pair(place, 0)},
+		{pair(0, place), pair(set, ends)},
+		{pair(0, 1), pair(1, 0), pair(1, 1), pair(place, place)},
+		{pair(0, 1), pair(0, 1), pair(0, 1), pair(0, 1), pair(place, ends)},
+	} {
+		impl.PairsOk(net, pairs)
+		impl.JoinsPairs(net, pairs, set)
+		impl.PairsOf(net, pairs)
+		impl.PairsCost(net, pairs)
+	}
+	impl.PartMany(net, set)
+}
+
 func TestNoArgumentIsWrittenTo(t *testing.T) {
 	for _, net := range append(drawnNets(60), netOf(9, way(7, 7, 77)), netOf(3, way(5, 0, 1))) {
 		checkUnwritten(t, net.Ways, way(2, 1, 3), func(ways []impl.Way) {
@@ -128,6 +145,14 @@ func TestNoArgumentIsWrittenTo(t *testing.T) {
 				impl.BestGain(net, prizes)
 				impl.BestWays(net, prizes)
 				impl.EndsGain(net, prizes, allOf(min(net.Nodes, impl.MaxNodes)))
+			})
+		}
+		for _, pairs := range []string{"", "10", "11 10 01", "00 01 10 11", "10 01 11 00 10", "98 01"} {
+			checkUnwritten(t, pairsIn(pairs), pair(1, 0), func(pairs []impl.Pair) {
+				impl.PairsOk(net, pairs)
+				impl.JoinsPairs(net, pairs, allOf(len(net.Ways)))
+				impl.PairsOf(net, pairs)
+				impl.PairsCost(net, pairs)
 			})
 		}
 	}
