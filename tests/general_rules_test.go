@@ -15,6 +15,9 @@ func TestSkeletonConstants(t *testing.T) {
 	if impl.MaxNodes != 6 || impl.MaxWays != 9 || impl.MaxCost != 9 || impl.MaxCuts != 8 || impl.MaxPrize != 20 || impl.MaxPairs != 4 {
 		t.Error(impl.MaxNodes, impl.MaxWays, impl.MaxCost, impl.MaxCuts, impl.MaxPrize, impl.MaxPairs)
 	}
+	if impl.MaxPlace != 20 || impl.MaxPoints != 6 {
+		t.Error(impl.MaxPlace, impl.MaxPoints)
+	}
 }
 
 func callAll(net impl.Net, set, place, ends int) {
@@ -27,6 +30,7 @@ func callAll(net impl.Net, set, place, ends int) {
 	callShares(net, set, place, ends)
 	callPrizes(net, set, place, ends)
 	callPairs(net, set, place, ends)
+	callPoints(set, place, ends)
 }
 
 func callNets(net impl.Net, set, place, ends int) {
@@ -122,6 +126,27 @@ func callPairs(net impl.Net, set, place, ends int) {
 	impl.PartMany(net, set)
 }
 
+func callPoints(set, place, ends int) {
+	for _, points := range [][]impl.Point{
+		nil,
+		{point(place, 0)},
+		{point(0, place), point(set, ends)},
+		{point(0, 20), point(3, 3), point(3, place)},
+		{point(20, 0), point(0, 1), point(1, 0), point(1, 1), point(20, 20), point(0, 0)},
+		{point(0, 1), point(0, 1), point(0, 1), point(0, 1), point(0, 1), point(0, 1), point(place, ends)},
+	} {
+		impl.PointsOk(points)
+		impl.PointsFar(points, place, 0)
+		impl.PointsFar(points, 0, set)
+		impl.HalfRound(points)
+		impl.MiddleOf(points)
+		impl.MeetCost(points, point(place, ends))
+		impl.MeetCost(points, point(1, set))
+	}
+	impl.GridNet(place, ends)
+	impl.GridNet(set, place)
+}
+
 func TestNoArgumentIsWrittenTo(t *testing.T) {
 	for _, net := range append(drawnNets(60), netOf(9, way(7, 7, 77)), netOf(3, way(5, 0, 1))) {
 		checkUnwritten(t, net.Ways, way(2, 1, 3), func(ways []impl.Way) {
@@ -155,6 +180,18 @@ func TestNoArgumentIsWrittenTo(t *testing.T) {
 				impl.PairsCost(net, pairs)
 			})
 		}
+	}
+}
+
+func TestNoPointIsWrittenTo(t *testing.T) {
+	for _, points := range append(somePoints(), noPoints()...) {
+		checkUnwritten(t, points, point(2, 1), func(points []impl.Point) {
+			impl.PointsOk(points)
+			impl.PointsFar(points, len(points)-1, 0)
+			impl.HalfRound(points)
+			impl.MiddleOf(points)
+			impl.MeetCost(points, point(3, 4))
+		})
 	}
 }
 
@@ -193,6 +230,17 @@ func TestResultsAreNewMemory(t *testing.T) {
 			return lists
 		})
 	}
+}
+
+func TestGridsAreNewMemory(t *testing.T) {
+	checkNewMemory(t, way(77, 77, 77), func() [][]impl.Way {
+		var rows [][]impl.Way
+		for _, size := range [][2]int{{1, 2}, {2, 1}, {2, 2}, {2, 2}, {2, 3}, {3, 2}, {6, 1}, {1, 1}} {
+			net, _ := impl.GridNet(size[0], size[1])
+			rows = append(rows, net.Ways)
+		}
+		return rows
+	})
 }
 
 func checkNewRows(t *testing.T, result func() [][]int) {
