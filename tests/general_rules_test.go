@@ -31,6 +31,7 @@ func callAll(net impl.Net, set, place, ends int) {
 	callPrizes(net, set, place, ends)
 	callPairs(net, set, place, ends)
 	callPoints(set, place, ends)
+	callChanges(net, set, place, ends)
 }
 
 func callNets(net impl.Net, set, place, ends int) {
@@ -147,6 +148,18 @@ func callPoints(set, place, ends int) {
 	impl.GridNet(set, place)
 }
 
+func callChanges(net impl.Net, set, place, ends int) {
+	impl.CostWithout(net, ends, set)
+	impl.CostWithout(net, set, ends)
+	impl.CostWith(net, ends, set)
+	impl.CostWith(net, set, ends)
+	impl.MustWays(net, ends)
+	impl.MayWays(net, ends)
+	impl.DearerNet(net, place, set)
+	impl.DearerNet(net, set, place)
+	impl.DearerNet(net, 0, 1)
+}
+
 func TestNoArgumentIsWrittenTo(t *testing.T) {
 	for _, net := range append(drawnNets(60), netOf(9, way(7, 7, 77)), netOf(3, way(5, 0, 1))) {
 		checkUnwritten(t, net.Ways, way(2, 1, 3), func(ways []impl.Way) {
@@ -241,6 +254,29 @@ func TestGridsAreNewMemory(t *testing.T) {
 		}
 		return rows
 	})
+}
+
+func TestDearerNetsAreNewMemory(t *testing.T) {
+	for _, net := range append(drawnNets(60), netOf(6), netOf(9, way(7, 7, 77)), netOf(2, way(0, 1, impl.MaxCost))) {
+		checkNewMemory(t, way(77, 77, 77), func() [][]impl.Way { return dearerWays(net) })
+		checkUnwritten(t, net.Ways, way(2, 1, 3), func(ways []impl.Way) {
+			for _, row := range dearerWays(netOf(net.Nodes, ways...)) {
+				spoil(row, way(77, 77, 77))
+			}
+		})
+	}
+}
+
+// dearerWays has the ways of the net in which each way costs 1 more, and then 2 more.
+func dearerWays(net impl.Net) [][]impl.Way {
+	var rows [][]impl.Way
+	for more := 1; more <= 2; more++ {
+		for i := range net.Ways {
+			dearer, _ := impl.DearerNet(net, i, more)
+			rows = append(rows, dearer.Ways)
+		}
+	}
+	return rows
 }
 
 func checkNewRows(t *testing.T, result func() [][]int) {

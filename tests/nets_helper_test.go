@@ -185,7 +185,7 @@ func wantCases(seen map[string]int, t *testing.T, cases ...string) {
 
 // badSets are numbers that tell no set of so many.
 func badSets(count int) []int {
-	return []int{-1, -2, math.MinInt, allOf(count) + 1, allOf(count) + 2, 1 << 32, math.MaxInt}
+	return []int{-1, -2, math.MinInt, allOf(count) + 1, allOf(count) + 2, allOf(count + 1), 1 << 32, math.MaxInt}
 }
 
 // badPlaces are no places of a net with so many.
