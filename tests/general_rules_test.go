@@ -32,6 +32,7 @@ func callAll(net impl.Net, set, place, ends int) {
 	callPairs(net, set, place, ends)
 	callPoints(set, place, ends)
 	callChanges(net, set, place, ends)
+	callCodes(set, place, ends)
 }
 
 func callNets(net impl.Net, set, place, ends int) {
@@ -160,6 +161,26 @@ func callChanges(net impl.Net, set, place, ends int) {
 	impl.DearerNet(net, 0, 1)
 }
 
+func callCodes(set, place, ends int) {
+	for _, places := range []int{2, 3, impl.MaxNodes, set, place} {
+		for _, links := range [][]impl.Pair{
+			nil,
+			{pair(place, 1)},
+			{pair(0, place), pair(set, ends)},
+			{pair(0, 1), pair(0, 2), pair(0, 3), pair(0, 4), pair(0, ends)},
+			{pair(0, 1), pair(0, 1), pair(1, 2), pair(1, 2), pair(place, ends)},
+		} {
+			impl.LinksOk(places, links)
+			impl.CodeOf(places, links)
+		}
+		for _, row := range [][]int{nil, {place}, {1, place, 5, 5}, {set, 0, place, 0, ends, 0}} {
+			impl.CodeOk(places, row)
+			impl.TreeOfCode(places, row)
+		}
+		impl.TreesMany(places)
+	}
+}
+
 func TestNoArgumentIsWrittenTo(t *testing.T) {
 	for _, net := range append(drawnNets(60), netOf(9, way(7, 7, 77)), netOf(3, way(5, 0, 1))) {
 		checkUnwritten(t, net.Ways, way(2, 1, 3), func(ways []impl.Way) {
@@ -204,6 +225,23 @@ func TestNoPointIsWrittenTo(t *testing.T) {
 			impl.HalfRound(points)
 			impl.MiddleOf(points)
 			impl.MeetCost(points, point(3, 4))
+		})
+	}
+}
+
+func TestNoTreeAndNoCodeIsWrittenTo(t *testing.T) {
+	for _, links := range append(treesOf(4), nil, pairsIn("01"), pairsIn("10"), pairsIn("23 12 01"), pairsIn("05 14 15 24 34"), pairsIn("34 24 15 14 05")) {
+		checkUnwritten(t, links, pair(0, 2), func(links []impl.Pair) {
+			impl.LinksOk(len(links)+1, links)
+			row, _ := impl.CodeOf(len(links)+1, links)
+			spoil(row, 77)
+		})
+	}
+	for _, row := range [][]int{nil, {0}, {2}, {3}, {3, 0}, {5, 4, 4, 1}, {5, 0, 5, 0}, {7, 1}} {
+		checkUnwritten(t, row, 1, func(row []int) {
+			impl.CodeOk(len(row)+2, row)
+			links, _ := impl.TreeOfCode(len(row)+2, row)
+			spoil(links, pair(77, 77))
 		})
 	}
 }
@@ -263,6 +301,29 @@ func TestDearerNetsAreNewMemory(t *testing.T) {
 			for _, row := range dearerWays(netOf(net.Nodes, ways...)) {
 				spoil(row, way(77, 77, 77))
 			}
+		})
+	}
+}
+
+func TestTreesAndCodesAreNewMemory(t *testing.T) {
+	for places := 2; places <= impl.MaxNodes; places++ {
+		trees := treesOf(places)
+		trees = append(trees[:min(len(trees), 40)], trees[0])
+		checkNewRows(t, func() [][]int {
+			var rows [][]int
+			for _, links := range trees {
+				row, _ := impl.CodeOf(places, links)
+				rows = append(rows, row)
+			}
+			return rows
+		})
+		checkNewMemory(t, pair(77, 77), func() [][]impl.Pair {
+			var found [][]impl.Pair
+			for _, links := range trees {
+				tree, _ := impl.TreeOfCode(places, wantRow(places, links))
+				found = append(found, tree)
+			}
+			return found
 		})
 	}
 }
