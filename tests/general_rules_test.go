@@ -33,6 +33,7 @@ func callAll(net impl.Net, set, place, ends int) {
 	callPoints(set, place, ends)
 	callChanges(net, set, place, ends)
 	callCodes(set, place, ends)
+	callDearest(net, set, place, ends)
 }
 
 func callNets(net impl.Net, set, place, ends int) {
@@ -181,6 +182,17 @@ func callCodes(set, place, ends int) {
 	}
 }
 
+func callDearest(net impl.Net, set, place, ends int) {
+	impl.DearestOf(net, set)
+	impl.LeastDearest(net, ends)
+	impl.NearestRow(net, ends)
+	impl.CoverCost(net, ends)
+	impl.FewestEnds(net, place)
+	impl.FewestEnds(net, set)
+	impl.FarthestRow(net)
+	impl.CentreOf(net)
+}
+
 func TestNoArgumentIsWrittenTo(t *testing.T) {
 	for _, net := range append(drawnNets(60), netOf(9, way(7, 7, 77)), netOf(3, way(5, 0, 1))) {
 		checkUnwritten(t, net.Ways, way(2, 1, 3), func(ways []impl.Way) {
@@ -305,6 +317,35 @@ func TestDearerNetsAreNewMemory(t *testing.T) {
 	}
 }
 
+func TestRowsOfDistancesAreNewMemory(t *testing.T) {
+	for _, net := range append(drawnNets(60), netOf(6), netOf(9, way(7, 7, 77)), edgeNets()["free round"]) {
+		checkNewRows(t, func() [][]int { return distanceRows(net) })
+		checkUnwritten(t, net.Ways, way(2, 1, 3), func(ways []impl.Way) {
+			for _, row := range distanceRows(netOf(net.Nodes, ways...)) {
+				spoil(row, 77)
+			}
+		})
+	}
+}
+
+// Each call is looked at by itself, for a second one could put back what the first one wrote.
+func TestNoNetIsWrittenToForItsDearestWays(t *testing.T) {
+	for _, net := range append(drawnNets(60), netOf(9, way(7, 7, 77)), netOf(3, way(5, 0, 1))) {
+		all, ends := allOf(len(net.Ways)), allOf(min(net.Nodes, impl.MaxNodes))
+		for _, call := range []func(net impl.Net){
+			func(net impl.Net) { impl.DearestOf(net, all) },
+			func(net impl.Net) { impl.LeastDearest(net, ends) },
+			func(net impl.Net) { spoil(impl.NearestRow(net, ends), 77) },
+			func(net impl.Net) { impl.CoverCost(net, ends) },
+			func(net impl.Net) { impl.FewestEnds(net, 1) },
+			func(net impl.Net) { spoil(impl.FarthestRow(net), 77) },
+			func(net impl.Net) { impl.CentreOf(net) },
+		} {
+			checkUnwritten(t, net.Ways, way(2, 1, 3), func(ways []impl.Way) { call(netOf(net.Nodes, ways...)) })
+		}
+	}
+}
+
 func TestTreesAndCodesAreNewMemory(t *testing.T) {
 	for places := 2; places <= impl.MaxNodes; places++ {
 		trees := treesOf(places)
@@ -336,6 +377,15 @@ func dearerWays(net impl.Net) [][]impl.Way {
 			dearer, _ := impl.DearerNet(net, i, more)
 			rows = append(rows, dearer.Ways)
 		}
+	}
+	return rows
+}
+
+// distanceRows has the nearest ends for all ends of small numbers, two times over, and the greatest distances.
+func distanceRows(net impl.Net) [][]int {
+	rows := [][]int{impl.FarthestRow(net), impl.FarthestRow(net)}
+	for ends := range 8 {
+		rows = append(rows, impl.NearestRow(net, ends), impl.NearestRow(net, ends))
 	}
 	return rows
 }
