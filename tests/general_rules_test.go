@@ -18,6 +18,12 @@ func TestSkeletonConstants(t *testing.T) {
 	if impl.MaxPlace != 20 || impl.MaxPoints != 6 {
 		t.Error(impl.MaxPlace, impl.MaxPoints)
 	}
+	if impl.DkWay != 0 || impl.DkDrop != 1 || impl.DkEnd != 2 || impl.DkBack != 3 {
+		t.Error(impl.DkWay, impl.DkDrop, impl.DkEnd, impl.DkBack)
+	}
+	if impl.MaxPast != 8 || impl.MaxLines != 40 || impl.MaxLog != 1000 {
+		t.Error(impl.MaxPast, impl.MaxLines, impl.MaxLog)
+	}
 }
 
 func callAll(net impl.Net, set, place, ends int) {
@@ -34,6 +40,8 @@ func callAll(net impl.Net, set, place, ends int) {
 	callChanges(net, set, place, ends)
 	callCodes(set, place, ends)
 	callDearest(net, set, place, ends)
+	callDesks(net, set, place, ends)
+	callStores(net, set, place, ends)
 }
 
 func callNets(net impl.Net, set, place, ends int) {
@@ -191,6 +199,45 @@ func callDearest(net impl.Net, set, place, ends int) {
 	impl.FewestEnds(net, set)
 	impl.FarthestRow(net)
 	impl.CentreOf(net)
+}
+
+func callDesks(net impl.Net, set, place, ends int) {
+	p := placeOf(net, ends)
+	impl.PlaceOk(p)
+	impl.ReadPlace(impl.PlaceText(p))
+	impl.DeskNew(p)
+	list := []impl.Deed{deed(place, 0, 0, 0), deed(impl.DkWay, 0, 1, ends), deed(impl.DkWay, set, place, 1), deed(impl.DkDrop, place, 0, 0), deed(impl.DkEnd, set, 0, 0), deed(impl.DkBack, 0, 0, ends), backDeed()}
+	lines := []string{"", "place", "cost", "far 0 5", "far 9 0", "way 0 1 2", "drop 0", "end 5", "back", "what", "far \xff\xff"}
+	for _, d := range []impl.Desk{deskOf(p), deskOf(p, p, placeOf(net, set)), deskOf(placeOf(netOf(2), 3), p)} {
+		impl.DeskOk(d)
+		for _, a := range list {
+			impl.DeskDo(d, a)
+			impl.ReadDeed(impl.DeedText(a))
+		}
+		for _, line := range lines {
+			impl.DeskLine(d, line)
+		}
+		impl.DeskRun(d, list)
+		impl.DeskSay(d, lines)
+	}
+	impl.ReadJournal(impl.JournalText(list))
+	impl.ReadJournal(impl.JournalText(list[6:]) + "end\xff\n")
+}
+
+func callStores(net impl.Net, set, place, ends int) {
+	p := placeOf(net, ends)
+	fresh, _ := impl.StoreNew(p)
+	for _, s := range []impl.Store{fresh, storeOf(fresh.Saved, "end 0\nback\nwa", 3), storeOf(fresh.Saved, "end 0\n", place), storeOf("2 . 1", "", set), storeOf("\xff", "\xff", 1)} {
+		impl.StoreOk(s)
+		impl.StoreOpen(s)
+		impl.StoreAct(s, deed(impl.DkEnd, place, 0, 0))
+		impl.StoreAct(s, deed(place, set, ends, 0))
+		impl.StoreSync(s)
+		impl.StoreSave(s)
+		impl.StoreCrash(s, place)
+		impl.StoreCrash(s, set)
+		impl.StoreMend(s)
+	}
 }
 
 func TestNoArgumentIsWrittenTo(t *testing.T) {
@@ -367,6 +414,167 @@ func TestTreesAndCodesAreNewMemory(t *testing.T) {
 			return found
 		})
 	}
+}
+
+// deskCalls are all functions that answer a desk for a desk, each with deeds or lines that are done, and that are not.
+func deskCalls() []func(d impl.Desk) impl.Desk {
+	calls := []func(d impl.Desk) impl.Desk{
+		func(d impl.Desk) impl.Desk { after, _ := impl.DeskNew(d.Now); return after },
+		func(d impl.Desk) impl.Desk { after, _ := impl.DeskDo(d, deed(4, 0, 0, 0)); return after },
+		func(d impl.Desk) impl.Desk { after, _ := impl.DeskDo(d, deed(impl.DkBack, 0, 1, 0)); return after },
+		func(d impl.Desk) impl.Desk { after, _ := impl.DeskRun(d, nil); return after },
+		func(d impl.Desk) impl.Desk { after, _ := impl.DeskRun(d, deedsIn("drop 99", "end 99")); return after },
+		func(d impl.Desk) impl.Desk { after, _ := impl.DeskSay(d, nil); return after },
+		func(d impl.Desk) impl.Desk { after, _ := impl.DeskSay(d, []string{"place", "what"}); return after },
+		func(d impl.Desk) impl.Desk { after, _ := impl.DeskLine(d, ""); return after },
+		func(d impl.Desk) impl.Desk { after, _ := impl.DeskLine(d, "may"); return after },
+		func(d impl.Desk) impl.Desk { after, _ := impl.DeskLine(d, "far 0 1"); return after },
+	}
+	for _, text := range []string{"way 0 1 1", "way 1 0 9", "way 1 1 1", "drop 0", "drop 1", "drop 99", "end 0", "end 1", "end 99", "back"} {
+		a := deedIn(text)
+		calls = append(calls,
+			func(d impl.Desk) impl.Desk { after, _ := impl.DeskDo(d, a); return after },
+			func(d impl.Desk) impl.Desk { after, _ := impl.DeskLine(d, text); return after },
+			func(d impl.Desk) impl.Desk { after, _ := impl.DeskRun(d, []impl.Deed{a, backDeed(), a}); return after },
+			func(d impl.Desk) impl.Desk { after, _ := impl.DeskSay(d, []string{text, "cost", text}); return after })
+	}
+	return calls
+}
+
+// roomy is the same desk with spare room behind all that it has.
+func roomy(d impl.Desk) impl.Desk {
+	room := func(p impl.Place) impl.Place {
+		p.Of.Ways = append(slices.Clone(p.Of.Ways), way(5, 4, 3), way(3, 4, 5))[:len(p.Of.Ways)]
+		return p
+	}
+	past := make([]impl.Place, 0, len(d.Past)+2)
+	for _, p := range d.Past {
+		past = append(past, room(p))
+	}
+	spare := room(placeOf(netOf(3, way(2, 1, 2)), 6))
+	return deskOf(room(d.Now), append(past, spare, spare)[:len(past)]...)
+}
+
+// withRoom tells all of a desk, the spare room too.
+func withRoom(d impl.Desk) told {
+	var texts told
+	for _, p := range append(slices.Clone(d.Past[:cap(d.Past)]), d.Now) {
+		p.Of.Ways = p.Of.Ways[:cap(p.Of.Ways)]
+		texts = append(texts, wantText(p))
+	}
+	return texts
+}
+
+func spoilDesk(d impl.Desk) {
+	for _, p := range append(slices.Clone(d.Past[:cap(d.Past)]), d.Now) {
+		spoil(p.Of.Ways, way(77, 77, 77))
+	}
+	spoil(d.Past, placeOf(netOf(77), 77))
+}
+
+func TestNoDeskIsWrittenTo(t *testing.T) {
+	desks := append(someDesks(60), noDesks()[:60]...)
+	for _, d := range desks {
+		for i, call := range deskCalls() {
+			given := roomy(d)
+			before := withRoom(given)
+			answered := call(given)
+			if !slices.Equal(withRoom(given), before) {
+				t.Fatalf("call %d: %q, before %q", i, withRoom(given), before)
+			}
+			spoilDesk(answered)
+			if !slices.Equal(withRoom(given), before) {
+				t.Fatalf("call %d shares memory: %q, before %q", i, withRoom(given), before)
+			}
+		}
+	}
+}
+
+// sharing are desks of which all places have the same ways in memory.
+func sharing() []impl.Desk {
+	var desks []impl.Desk
+	for _, text := range []string{"2 0-1:1 3", "3 0-1:1,1-2:5,2-0:0 6", "6 0-5:1,5-3:2 0"} {
+		p := placeIn(text)
+		for count := range impl.MaxPast + 1 {
+			desks = append(desks, deskOf(p, slices.Repeat([]impl.Place{p}, count)...))
+		}
+	}
+	return desks
+}
+
+func TestNoTwoPlacesOfADeskShareMemory(t *testing.T) {
+	for _, d := range append(someDesks(60), sharing()...) {
+		calls := append(deskCalls(), func(d impl.Desk) impl.Desk {
+			opened, _ := impl.StoreOpen(storeOf(wantText(d.Now), "way 1 0 3\nend 0\nend 1\ndrop 0\nback\nend 1\n", 0))
+			return opened
+		})
+		for i, call := range calls {
+			first, second := call(d), call(d)
+			want := toldOf(first)
+			spoilDesk(second)
+			if !want.is(first) {
+				t.Fatalf("call %d changes with another one: %q, not %q", i, toldOf(first), want)
+			}
+			places := append(slices.Clone(first.Past), first.Now)
+			for at, p := range places {
+				spoil(p.Of.Ways, way(77, 77, 77))
+				for behind := at + 1; behind < len(places); behind++ {
+					if wantText(places[behind]) != want[behind] {
+						t.Fatalf("call %d: the place %d changes with the place %d", i, behind, at)
+					}
+				}
+			}
+			if !want.is(call(d)) {
+				t.Fatalf("call %d answers anew %q, not %q", i, toldOf(call(d)), want)
+			}
+		}
+	}
+}
+
+func TestNoListOfDeedsOrLinesIsWrittenTo(t *testing.T) {
+	for _, d := range append(someDesks(10), impl.Desk{}) {
+		for _, list := range [][]impl.Deed{nil, deedsIn("end 0"), deedsIn("drop 9", "back", "way 0 1 1"), slices.Repeat(deedsIn("end 0"), impl.MaxLines+1), {deed(4, 0, 0, 0), deed(-1, 1, 1, 1)}} {
+			checkUnwritten(t, list, backDeed(), func(list []impl.Deed) {
+				impl.DeskRun(d, list)
+				impl.JournalText(list)
+			})
+		}
+		for _, lines := range [][]string{nil, {"end 0"}, {"what", "place", "back"}, slices.Repeat([]string{"cost"}, impl.MaxLines+1)} {
+			checkUnwritten(t, lines, "end 1", func(lines []string) {
+				_, answers := impl.DeskSay(d, lines)
+				spoil(answers, "spoiled")
+			})
+		}
+	}
+}
+
+func TestReadTextsAndAnswersAreNewMemory(t *testing.T) {
+	checkNewMemory(t, way(77, 77, 77), func() [][]impl.Way {
+		var rows [][]impl.Way
+		for _, text := range []string{"2 . 0", "2 0-1:1 3", "2 0-1:1 3", "3 0-1:1,1-2:2,2-0:3 1", "3 0-1:1,1-2:2,2-0:3 1"} {
+			p, _ := impl.ReadPlace(text)
+			d, _ := impl.DeskNew(p)
+			rows = append(rows, p.Of.Ways, d.Now.Of.Ways)
+		}
+		return rows
+	})
+	checkNewMemory(t, deed(77, 77, 77, 77), func() [][]impl.Deed {
+		var rows [][]impl.Deed
+		for _, text := range []string{"", "end 0\n", "end 0\n", "end 0\nback\ndrop 1\nwa", "end 0\nback\ndrop 1\nwa"} {
+			list, _ := impl.ReadJournal(text)
+			rows = append(rows, list)
+		}
+		return rows
+	})
+	checkNewMemory(t, "spoiled", func() [][]string {
+		var rows [][]string
+		for _, d := range someDesks(3) {
+			_, first := impl.DeskSay(d, []string{"place", "cost", "end 0", "what"})
+			_, second := impl.DeskSay(d, []string{"place", "cost", "end 0", "what"})
+			rows = append(rows, first, second)
+		}
+		return rows
+	})
 }
 
 // dearerWays has the ways of the net in which each way costs 1 more, and then 2 more.
